@@ -1,0 +1,1 @@
+"""Single stations of a queueing network, computed exactly."""

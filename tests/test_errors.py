@@ -1,0 +1,123 @@
+"""The order of the errors, and that a refused call leaves everything as it was."""
+
+import unittest
+
+from tests.support import HUGE, ask, ask_station, look
+
+ENDLESS = (3, 0, 2, 2, 0, 0, 10)
+BOUNDED = (3, 9, 2, 2, 5, 4, 10)
+ADD = ("add_class", 1, 1, 2, 1, 2, 1)
+
+# Each operation but create, once with arguments in range and once with others.
+RIGHT = [
+    ("set_station",) + ENDLESS, ("set_servers", 2), ("set_rates", 1, 1), ADD, ("remove_class", 0),
+    ("probability", 0), ("means",), ("rates",), ("shares",), ("response_times",), ("arrival_sees", 0),
+    ("compare_servers", 2),
+]
+WRONG = [
+    ("set_station", 0, 41, 0, 0, 41, HUGE, 1001), ("set_servers", 0), ("set_rates", 0, 0),
+    ("add_class", 0, 0, 0, 0, 0, HUGE), ("remove_class", HUGE), ("probability", 1001), ("arrival_sees", 1001),
+    ("compare_servers", 0), ("compare_servers", 21),
+]
+OF_A_STATION = (
+    "set_servers", "set_rates", "probability", "means", "rates", "shares", "response_times", "arrival_sees",
+    "compare_servers",
+)
+
+
+class NoInstance(unittest.TestCase):
+    def test_ahead_of_everything_else(self):
+        for call in RIGHT + WRONG:
+            self.assertEqual(ask(call), [[-11]], call)
+
+    def test_until_create_is_called(self):
+        replies = ask(*RIGHT, *WRONG, ("create",), ADD)
+        self.assertEqual(replies, [[-11]] * len(RIGHT + WRONG) + [[0], [0]])
+
+    def test_nothing_is_there_behind_a_late_create(self):
+        self.assertEqual(ask(("set_station",) + ENDLESS, ADD, ("create",), ("means",), ADD)[2:], [[0], [-6], [0]])
+
+
+class NoStation(unittest.TestCase):
+    def test_ahead_of_the_range(self):
+        for call in RIGHT + WRONG:
+            if call[0] in OF_A_STATION:
+                self.assertEqual(ask(("create",), call), [[0], [-6]], call)
+
+    def test_a_refused_station_is_none(self):
+        calls = [("create",), ("set_station", 3, 0, 3, 1, 0, 0, 0), ("means",)]
+        self.assertEqual(ask(*calls), [[0], [-33], [-6]])
+        calls = [("create",), ("set_station", 0, 0, 3, 1, 0, 0, 0), ("set_servers", 1), ("set_rates", 1, 2)]
+        self.assertEqual(ask(*calls), [[0], [-22], [-6], [-6]])
+
+
+class RangeAheadOfStability(unittest.TestCase):
+    def test_set_station(self):
+        # None of these would be stable, were they in range.
+        for settings in (
+            (100001, 0, 1, 1, 0, 0, 0), (2, 0, 0, 1, 0, 0, 0), (2, 0, 1, 0, 0, 0, 0), (21, 0, 1, 21, 0, 0, 0),
+            (1, 0, 9, 1, 0, 100001, 0), (2, 0, 1, 1, 0, 0, 1001), (2, 0, 1, 1, 0, 1, HUGE),
+        ):
+            self.assertEqual(ask(("create",), ("set_station",) + settings)[1], [-22], settings)
+
+    def test_set_servers_and_compare_servers(self):
+        for name in ("set_servers", "compare_servers"):
+            self.assertEqual(ask_station(ENDLESS, (name, 0), (name, 1), (name, 2))[:2], [[-22], [-33]])
+            self.assertEqual(ask_station(BOUNDED, (name, 6), (name, 0)), [[-22], [-22]])
+
+    def test_set_rates(self):
+        calls = [("set_rates", 100001, 1), ("set_rates", 100000, 0), ("set_rates", 100000, 1)]
+        self.assertEqual(ask_station(ENDLESS, *calls), [[-22], [-22], [-33]])
+
+    def test_probability_and_arrival_sees(self):
+        for name in ("probability", "arrival_sees"):
+            self.assertEqual(ask_station(BOUNDED, (name, 1001)), [[-22]])
+
+
+class NothingChanged(unittest.TestCase):
+    REFUSED = {
+        ENDLESS: [
+            ("set_station", 3, 0, 3, 1, 0, 0, 0), ("set_station", 0, 0, 3, 1, 0, 0, 0),
+            ("set_station", 1, 0, 3, 1, 0, 1, 0), ("set_station", 1, 3, 5, 7, 6, 0, 0),
+            ("set_station", 1, 3, 5, 1, 6, 0, 1001),
+            ("set_servers", 0), ("set_servers", 21), ("set_servers", 1),
+            ("set_rates", 0, 1), ("set_rates", 5, 0), ("set_rates", 5, 100001), ("set_rates", 5, 2),
+            ("probability", 1001), ("arrival_sees", 1001), ("compare_servers", 0), ("compare_servers", 1),
+        ],
+        BOUNDED: [
+            ("set_station", 3, 0, 3, 1, 0, 0, 0), ("set_station", 3, 0, 3, 1, 41, 0, 0),
+            ("set_servers", 6), ("set_servers", 0), ("set_rates", 5, 0), ("set_rates", 100001, 7),
+            ("probability", HUGE), ("arrival_sees", HUGE), ("compare_servers", 6), ("compare_servers", 0),
+        ],
+    }
+
+    def check(self, settings, refused, calls):
+        """Check that the refused call leaves what the calls show, and both numbers of classes."""
+        shown = ask_station(settings, *calls)
+        replies = ask_station(settings, ADD, ADD, refused, *calls, ADD, ("remove_class", 2), ("remove_class", 2))
+        self.assertLess(replies[2][0], 0, refused)
+        self.assertEqual(len(replies[2]), 1, refused)
+        self.assertEqual(replies[3:-3], shown, refused)
+        self.assertEqual(replies[-3:], [[2], [2], [-2]], refused)
+
+    def test_station_and_classes(self):
+        classes = [("add_class", 0, 1, 2, 1, 2, 1), ("add_class", 1, 1, 2, 1, 5, 1), ("remove_class", 2)]
+        for settings, calls in self.REFUSED.items():
+            for refused in calls + classes:
+                self.check(settings, refused, look((2, 3, 5)))
+
+    def test_a_sixth_class(self):
+        replies = ask_station(ENDLESS, *[ADD] * 5, ADD, *look((2, 3)), ("remove_class", 4))
+        self.assertEqual(replies[5], [-28])
+        self.assertEqual(replies[6:-1], ask_station(ENDLESS, *look((2, 3))))
+        self.assertEqual(replies[-1], [4])
+
+    def test_settings_that_show_later(self):
+        # The capacity, the patience and the balking of a refused station must not be there later either.
+        refused = ("set_station", 1, 3, 5, 7, 6, 9, 800)
+        calls = [("set_servers", 7), ("set_rates", 8, 2)] + look((4, 5, 20))
+        self.assertEqual(ask_station(ENDLESS, refused, *calls)[1:], ask_station(ENDLESS, *calls))
+
+
+if __name__ == "__main__":
+    unittest.main()
