@@ -3,7 +3,9 @@
 Each is given the instance and a list of its arguments, and answers a list of numbers.
 """
 
-from lonestations.codes import NO_CLASS, NO_STATION, OUT_OF_RANGE, TOO_MANY_CLASSES
+from lonestations.codes import NO_CLASS, NOTHING_THERE, OUT_OF_RANGE, TOO_MANY_CLASSES
+from lonestations.customer_class import CustomerClass
+from lonestations.exact import lowest
 from lonestations.ranges import are_moments, is_cost, is_rate
 from lonestations.station import Station
 
@@ -29,14 +31,14 @@ def set_station(instance, given):
 def set_servers(instance, given):
     """Change the number of servers."""
     if instance.station is None:
-        return [-NO_STATION]
+        return [-NOTHING_THERE]
     return put_station(instance, instance.station.with_servers(given[0]))
 
 
 def set_rates(instance, given):
     """Change both rates."""
     if instance.station is None:
-        return [-NO_STATION]
+        return [-NOTHING_THERE]
     return put_station(instance, instance.station.with_rates(given[0], given[1]))
 
 
@@ -46,7 +48,9 @@ def add_class(instance, given):
         return [-OUT_OF_RANGE]
     if len(instance.classes) == MOST_CLASSES:
         return [-TOO_MANY_CLASSES]
-    instance.classes.append(tuple(given))
+    mean = lowest(given[1], given[2])
+    second = lowest(given[3], given[4])
+    instance.classes.append(CustomerClass(given[0], mean, second, given[5]))
     return [len(instance.classes) - 1]
 
 

@@ -19,6 +19,11 @@ def lowest(num, den):
     return (num // divisor, den // divisor)
 
 
+def added(first, second):
+    """Answer first + second."""
+    return lowest(first[0] * second[1] + second[0] * first[1], first[1] * second[1])
+
+
 def difference(first, second):
     """Answer first - second."""
     return lowest(first[0] * second[1] - second[0] * first[1], first[1] * second[1])
@@ -46,3 +51,19 @@ def power(base, exponent):
         num *= base[0]
         den *= base[1]
     return (num, den)
+
+
+def sum_of(fractions):
+    """Answer the sum of these fractions, 0 if there are none."""
+    whole = (0, 1)
+    for fraction in fractions:
+        whole = added(whole, fraction)
+    return whole
+
+
+def told(number, fractions):
+    """Answer a list of this number and, behind it, each fraction as two numbers."""
+    numbers = [number]
+    for fraction in fractions:
+        numbers.extend(fraction)
+    return numbers

@@ -3,31 +3,23 @@
 Each is given the station and a list of its arguments, and answers a list of numbers.
 """
 
-from lonestations.codes import NO_STATION, OUT_OF_RANGE
+from lonestations.codes import NOTHING_THERE, OUT_OF_RANGE
 from lonestations.distribution import Distribution
-from lonestations.exact import difference, product, quotient
+from lonestations.exact import difference, product, quotient, told
 from lonestations.ranges import is_customers
-
-
-def told(fractions):
-    """Answer 0 and behind it each fraction as two numbers."""
-    numbers = [0]
-    for fraction in fractions:
-        numbers.extend(fraction)
-    return numbers
 
 
 def probability(station, given):
     """Tell the probability of a number of customers."""
     if not is_customers(given[0]):
         return [-OUT_OF_RANGE]
-    return told([Distribution(station).probability(given[0])])
+    return told(0, [Distribution(station).probability(given[0])])
 
 
 def means(station, given):
     """Tell the mean numbers of customers, of waiting customers and of busy servers."""
     spread = Distribution(station)
-    return told([spread.customers(), spread.waiting(), spread.busy()])
+    return told(0, [spread.customers(), spread.waiting(), spread.busy()])
 
 
 def rates(station, given):
@@ -35,7 +27,7 @@ def rates(station, given):
     spread = Distribution(station)
     throughput = product(spread.busy(), (station.service, 1))
     giving_up = product(spread.waiting(), (station.patience, 1))
-    return told([spread.offered(), spread.accepted(), throughput, giving_up])
+    return told(0, [spread.offered(), spread.accepted(), throughput, giving_up])
 
 
 def shares(station, given):
@@ -44,14 +36,14 @@ def shares(station, given):
     accepted = spread.accepted()
     lost = difference((1, 1), quotient(accepted, spread.offered()))
     delayed = quotient(spread.delayed(), accepted)
-    return told([lost, delayed, quotient(spread.busy(), (station.servers, 1))])
+    return told(0, [lost, delayed, quotient(spread.busy(), (station.servers, 1))])
 
 
 def response_times(station, given):
     """Tell the mean times in the station and in the queue."""
     spread = Distribution(station)
     accepted = spread.accepted()
-    return told([quotient(spread.customers(), accepted), quotient(spread.waiting(), accepted)])
+    return told(0, [quotient(spread.customers(), accepted), quotient(spread.waiting(), accepted)])
 
 
 def arrival_sees(station, given):
@@ -60,7 +52,7 @@ def arrival_sees(station, given):
         return [-OUT_OF_RANGE]
     spread = Distribution(station)
     finding = product(spread.probability(given[0]), (station.offered(given[0]), 1))
-    return told([quotient(finding, spread.offered())])
+    return told(0, [quotient(finding, spread.offered())])
 
 
 def compare_servers(station, given):
@@ -71,7 +63,7 @@ def compare_servers(station, given):
         return [-refusal]
     now = Distribution(station)
     then = Distribution(other)
-    return told([
+    return told(0, [
         difference(then.customers(), now.customers()),
         difference(then.accepted(), now.accepted()),
     ])
@@ -91,6 +83,6 @@ FIGURES = {
 def figure(station, number, given):
     """Answer the operation with this number; station is None if there is none."""
     if station is None:
-        return [-NO_STATION]
+        return [-NOTHING_THERE]
     operation = FIGURES[number]
     return operation(station, given)

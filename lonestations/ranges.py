@@ -16,6 +16,11 @@ def is_servers(value):
     return 1 <= value <= 20
 
 
+def is_servers_of_erlang(value):
+    """Say whether this is a number of servers for Erlang's formulas."""
+    return 0 <= value <= 200
+
+
 def is_capacity(value, servers):
     """Say whether this is the capacity of a station with so many servers, 0 for no limit."""
     return value == 0 or servers <= value <= 40
@@ -48,3 +53,18 @@ def is_cost(value):
 def is_customers(value):
     """Say whether this is a number of customers that may be asked for."""
     return 0 <= value <= 1000
+
+
+def is_load_or_target(num, den):
+    """Say whether these are the numerator and the denominator of a load or of a share to be reached."""
+    return 0 <= num <= 1000000 and 1 <= den <= 1000000
+
+
+def is_kind(value):
+    """Say whether this names one of the two shares."""
+    return 0 <= value <= 1
+
+
+def is_order(values, count):
+    """Say whether these are the numbers of so many classes, each once."""
+    return sorted(values) == list(range(count))

@@ -1,4 +1,4 @@
-"""Calls by name, and a second reckoning of the stations to hold the program's answers against."""
+"""Calls by name, and a second reckoning of stations, classes and shares to hold the program's answers against."""
 
 from fractions import Fraction
 
@@ -18,17 +18,38 @@ NUMBERS = {
     "response_times": 10,
     "arrival_sees": 11,
     "compare_servers": 12,
+    "erlang_b": 13,
+    "erlang_c": 14,
+    "fewest_servers": 15,
+    "loads": 16,
+    "wait_fifo": 17,
+    "waits": 18,
+    "times": 19,
+    "conservation": 20,
+    "cost": 21,
+    "best_order": 22,
+    "vacation_wait": 23,
+    "summary": 24,
 }
+
+OF_AN_ORDER = ("waits", "times", "conservation", "cost")
 
 HUGE = 4294967295
 
 
+def as_numbers(call):
+    """Give back a call like ("set_servers", 2) or ("waits", [1, 0]) as it stands in a list of calls."""
+    given = [NUMBERS[call[0]]]
+    for value in call[1:]:
+        given.extend([len(value)] + value if isinstance(value, list) else [value])
+    return given
+
+
 def ask(*calls):
-    """Hand in calls like ("set_servers", 2) as one list, and give back one list of numbers a call."""
+    """Hand in calls as one list, and give back one list of numbers a call."""
     given = []
     for call in calls:
-        given.append(NUMBERS[call[0]])
-        given.extend(call[1:])
+        given.extend(as_numbers(call))
     if not 1 <= len(calls) <= 60 or len(given) > 600:
         raise AssertionError("the document rules out so many calls")
     answered = answers(given)
@@ -51,17 +72,25 @@ def ask_station(settings, *calls):
     return replies[2:]
 
 
-def told(*values):
-    """Give back the answer that tells these fractions."""
-    numbers = [0]
+def ask_classes(rows, *calls):
+    """Give back what the calls answer on an instance with these classes."""
+    replies = ask(("create",), *[("add_class",) + tuple(row) for row in rows], *calls)
+    if replies[:len(rows) + 1] != [[0]] + [[number] for number in range(len(rows))]:
+        raise AssertionError(f"{rows}: {replies[:len(rows) + 1]}")
+    return replies[len(rows) + 1:]
+
+
+def told(*values, first=0):
+    """Give back the answer that tells this number and these fractions."""
+    numbers = [first]
     for value in values:
         numbers.extend([Fraction(value).numerator, Fraction(value).denominator])
     return numbers
 
 
-def fractions_of(reply):
+def fractions_of(reply, first=0):
     """Give back the fractions of an answer that told(..) could have made."""
-    if reply[0] != 0 or len(reply) % 2 == 0:
+    if reply[0] != first or len(reply) % 2 == 0:
         raise AssertionError(f"not fractions: {reply}")
     return [Fraction(num, den) for num, den in zip(reply[1::2], reply[2::2])]
 
@@ -74,6 +103,14 @@ def look(servers=(1, 2, 3, 20)):
         + [("arrival_sees", customers) for customers in (0, 1, 2, 3, 40)]
         + [("compare_servers", number) for number in servers]
     )
+
+
+def look_classes(count):
+    """Give back calls that show all that can be seen of so many classes."""
+    calls = [("summary",), ("loads",), ("wait_fifo",), ("best_order",), ("vacation_wait", 2, 3, 5, 7)]
+    for order in (list(range(count)), list(reversed(range(count)))):
+        calls += [(name, order) for name in OF_AN_ORDER]
+    return calls
 
 
 class Model:
@@ -176,3 +213,73 @@ def stations():
     found.append((99999, 0, 5000, 20, 0, 0, 0))
     found.append((100000, 0, 1, 20, 0, 0, 1000))
     return found
+
+
+class ClassModel:
+    """Classes reckoned with Python's own fractions, straight from the document's terms."""
+
+    def __init__(self, rows):
+        self.r = [row[0] for row in rows]
+        self.f = [Fraction(row[1], row[2]) for row in rows]
+        self.g = [Fraction(row[3], row[4]) for row in rows]
+        self.w = [row[5] for row in rows]
+        self.numbers = range(len(rows))
+        self.load = [self.r[number] * self.f[number] for number in self.numbers]
+        self.total = sum(self.load, Fraction(0))
+        self.R = self.backlog(self.numbers)
+
+    def backlog(self, numbers):
+        return sum((self.r[number] * self.g[number] for number in numbers), Fraction(0)) / 2
+
+    def loads(self):
+        return told(*self.load, self.total, first=len(self.numbers) + 1)
+
+    def fifo(self):
+        return self.R / (1 - self.total)
+
+    def shares(self, order, number):
+        """The product of the two free shares of a class, and the first of them."""
+        ahead = order[:order.index(number)]
+        s = sum(self.load[other] for other in ahead)
+        return (1 - s) * (1 - s - self.load[number]), 1 - s
+
+    def wait(self, order, number):
+        return self.R / self.shares(order, number)[0]
+
+    def time(self, order, number):
+        both, free = self.shares(order, number)
+        upto = order[:order.index(number) + 1]
+        return self.f[number] / free + self.backlog(upto) / both
+
+    def waits(self, order):
+        return told(*[self.wait(order, number) for number in self.numbers], first=len(self.numbers))
+
+    def times(self, order):
+        return told(*[self.time(order, number) for number in self.numbers], first=len(self.numbers))
+
+    def conservation(self, order):
+        work = sum(self.load[number] * self.wait(order, number) for number in self.numbers)
+        return told(work, self.total * self.fifo())
+
+    def cost(self, order):
+        return told(sum(self.w[number] * self.r[number] * self.wait(order, number) for number in self.numbers))
+
+    def best_order(self):
+        return sorted(self.numbers, key=lambda number: (-self.w[number] / self.f[number], number))
+
+
+def class_lists():
+    """Give back lists of stable classes: none, one, two to five, just stable ones, dear ones and free ones."""
+    return [
+        [],
+        [(1, 1, 2, 1, 2, 3)],
+        [(1, 1, 4, 1, 8, 1), (1, 1, 2, 1, 2, 4)],
+        [(3, 1, 7, 2, 49, 5), (2, 1, 9, 1, 3, 0), (5, 1, 50, 1, 2500, 100000)],
+        [(1, 1, 10, 1, 100, 2), (1, 1, 5, 1, 25, 4), (1, 3, 10, 1, 10, 6), (1, 2, 10, 4, 100, 4)],
+        [(1, 1, 8, 1, 8, 7), (2, 1, 16, 1, 3, 1), (3, 1, 99, 1, 7, 9), (4, 1, 33, 5, 6, 0), (5, 1, 77, 1, 11, 2)],
+        [(1, 999999, 1000000, 1, 1, 1)],
+        [(99999, 1, 100000, 1000000, 1, 100000)],
+        [(1, 1, 3, 1, 9, 1), (1, 1, 3, 1, 9, 1), (3, 111111, 1000000, 1, 81, 1)],
+        [(100000, 1, 500001, 1, 1, 100000)] * 5,
+        [(7, 3, 1000, 1, 999, 1), (100000, 1, 999983, 1, 7, 3), (1, 999, 1999, 1, 1, 0), (2, 7, 999, 3, 2, 99991)],
+    ]

@@ -2,9 +2,7 @@
 
 import unittest
 
-from lonestations.changes import change
-from lonestations.instance import Instance
-from tests.support import HUGE, NUMBERS, ask
+from tests.support import HUGE, ClassModel, ask, ask_classes, look_classes
 
 # Mean 1/2, second moment 1/2.
 PLAIN = (1, 1, 2, 1, 2, 1)
@@ -128,34 +126,61 @@ class RemoveClass(unittest.TestCase):
 
 
 class WhatIsHeld(unittest.TestCase):
-    """No call of the desk tells yet which classes are there, so these look at the instance itself."""
+    # No two are alike in any figure but the mean's numerator, and together they are stable.
+    ROWS = [
+        (1, 1, 8, 1, 8, 7), (2, 1, 16, 1, 3, 1), (3, 1, 99, 1, 7, 9), (4, 1, 33, 5, 6, 0), (5, 1, 77, 1, 11, 2),
+    ]
 
-    def held(self, removed):
-        instance = Instance()
-        for arrival in range(1, 6):
-            change(instance, NUMBERS["add_class"], [arrival] + list(PLAIN[1:]))
-        for number in removed:
-            change(instance, NUMBERS["remove_class"], [number])
-        return instance.classes
+    def check_held(self, rows, replies):
+        """Check that the replies to look_classes(..) are those of these classes alone."""
+        model = ClassModel(rows)
+        order = list(range(len(rows)))
+        turned = order[::-1]
+        self.assertEqual(replies[:2], [[0, len(rows), 1], model.loads()], rows)
+        self.assertEqual(replies[3], [len(rows)] + model.best_order(), rows)
+        for start, some in ((5, order), (9, turned)):
+            wanted = [model.waits(some), model.times(some), model.conservation(some), model.cost(some)]
+            self.assertEqual(replies[start:start + 4], wanted, rows)
 
-    def test_a_class_is_held_as_it_was_given(self):
-        self.assertEqual(self.held([]), [(arrival,) + PLAIN[1:] for arrival in range(1, 6)])
+    def check_removed(self, numbers, places):
+        """Check that behind these removals the classes of these places of ROWS are left."""
+        calls = [("remove_class", number) for number in numbers]
+        replies = ask_classes(self.ROWS, *calls, *look_classes(len(places)))
+        self.check_held([self.ROWS[place] for place in places], replies[len(calls):])
+
+    def test_classes_are_held_as_they_were_given(self):
+        for count in range(6):
+            self.check_held(self.ROWS[:count], ask_classes(self.ROWS[:count], *look_classes(count)))
 
     def test_later_classes_move_down(self):
-        self.assertEqual([held[0] for held in self.held([1])], [1, 3, 4, 5])
-        self.assertEqual([held[0] for held in self.held([1, 1])], [1, 4, 5])
-        self.assertEqual([held[0] for held in self.held([0, 3])], [2, 3, 4])
-        self.assertEqual([held[0] for held in self.held([4, 0])], [2, 3, 4])
+        self.check_removed([0], [1, 2, 3, 4])
+        self.check_removed([1], [0, 2, 3, 4])
+        self.check_removed([4], [0, 1, 2, 3])
+        self.check_removed([1, 1], [0, 3, 4])
+        self.check_removed([0, 3], [1, 2, 3])
+        self.check_removed([4, 0], [1, 2, 3])
+        self.check_removed([2, 0, 1], [1, 4])
+        self.check_removed([0, 0, 0, 0, 0], [])
+
+    def test_a_new_class_comes_last(self):
+        new = (7, 3, 1000, 1, 999, 1)
+        replies = ask_classes(self.ROWS, ("remove_class", 1), ("add_class",) + new, *look_classes(5))
+        self.assertEqual(replies[:2], [[4], [4]])
+        self.check_held([self.ROWS[0]] + self.ROWS[2:] + [new], replies[2:])
+
+    def test_two_alike_are_two(self):
+        self.check_held([self.ROWS[0]] * 2, ask_classes([self.ROWS[0]] * 2, *look_classes(2)))
+
+    def test_moments_need_not_be_in_lowest_terms(self):
+        plain = ask_classes([(3, 1, 8, 2, 5, 4)] * 2, *look_classes(2))
+        self.assertEqual(ask_classes([(3, 125000, 1000000, 400000, 1000000, 4)] * 2, *look_classes(2)), plain)
 
     def test_a_refusal_changes_no_class(self):
-        instance = Instance()
-        for arrival in range(1, 6):
-            change(instance, NUMBERS["add_class"], [arrival] + list(PLAIN[1:]))
-        before = list(instance.classes)
-        change(instance, NUMBERS["add_class"], [9] + list(PLAIN[1:]))
-        change(instance, NUMBERS["add_class"], [0] + list(PLAIN[1:]))
-        change(instance, NUMBERS["remove_class"], [5])
-        self.assertEqual(instance.classes, before)
+        calls = [("add_class", 9) + PLAIN[1:], ("add_class", 0) + PLAIN[1:]]
+        calls += [("remove_class", 5), ("remove_class", HUGE)]
+        replies = ask_classes(self.ROWS, *calls, *look_classes(5))
+        self.assertEqual(replies[:4], [[-28], [-22], [-2], [-2]])
+        self.check_held(self.ROWS, replies[4:])
 
 
 if __name__ == "__main__":

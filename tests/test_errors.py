@@ -2,22 +2,28 @@
 
 import unittest
 
-from tests.support import HUGE, ask, ask_station, look
+from tests.support import HUGE, NUMBERS, OF_AN_ORDER, ask, ask_classes, ask_station, look, look_classes
 
 ENDLESS = (3, 0, 2, 2, 0, 0, 10)
 BOUNDED = (3, 9, 2, 2, 5, 4, 10)
 ADD = ("add_class", 1, 1, 2, 1, 2, 1)
+# Two classes that are stable together, and with five of the second, too.
+ROWS = [(2, 1, 16, 1, 3, 5), (1, 1, 8, 1, 6, 7)]
 
 # Each operation but create, once with arguments in range and once with others.
 RIGHT = [
     ("set_station",) + ENDLESS, ("set_servers", 2), ("set_rates", 1, 1), ADD, ("remove_class", 0),
     ("probability", 0), ("means",), ("rates",), ("shares",), ("response_times",), ("arrival_sees", 0),
-    ("compare_servers", 2),
+    ("compare_servers", 2), ("erlang_b", 2, 3, 2), ("erlang_c", 2, 3, 2), ("fewest_servers", 0, 3, 2, 1, 10),
+    ("loads",), ("wait_fifo",), ("waits", []), ("times", []), ("conservation", []), ("cost", []), ("best_order",),
+    ("vacation_wait", 1, 1, 1, 1), ("summary",),
 ]
 WRONG = [
     ("set_station", 0, 41, 0, 0, 41, HUGE, 1001), ("set_servers", 0), ("set_rates", 0, 0),
     ("add_class", 0, 0, 0, 0, 0, HUGE), ("remove_class", HUGE), ("probability", 1001), ("arrival_sees", 1001),
-    ("compare_servers", 0), ("compare_servers", 21),
+    ("compare_servers", 0), ("compare_servers", 21), ("erlang_b", 201, 0, 0), ("erlang_c", 201, 0, 0),
+    ("erlang_c", 1, 1, 1), ("fewest_servers", 2, 0, 0, 0, 0), ("fewest_servers", 0, 1, 1, 0, 1),
+    ("waits", [0]), ("times", [0, 1]), ("conservation", [HUGE]), ("cost", [0] * 8), ("vacation_wait", 0, 0, 0, 0),
 ]
 OF_A_STATION = (
     "set_servers", "set_rates", "probability", "means", "rates", "shares", "response_times", "arrival_sees",
@@ -29,6 +35,9 @@ class NoInstance(unittest.TestCase):
     def test_ahead_of_everything_else(self):
         for call in RIGHT + WRONG:
             self.assertEqual(ask(call), [[-11]], call)
+
+    def test_each_operation_is_among_them(self):
+        self.assertEqual({call[0] for call in RIGHT} | {"create"}, set(NUMBERS))
 
     def test_until_create_is_called(self):
         replies = ask(*RIGHT, *WRONG, ("create",), ADD)
@@ -91,26 +100,51 @@ class NothingChanged(unittest.TestCase):
         ],
     }
 
+    # Refused with any station and with the two classes of ROWS.
+    ALWAYS = [
+        ("add_class", 0, 1, 2, 1, 2, 1), ("add_class", 1, 1, 2, 1, 5, 1), ("add_class", 1, 1, 2, 1, 2, HUGE),
+        ("remove_class", 2), ("remove_class", HUGE),
+        ("erlang_b", 201, 1, 1), ("erlang_c", 201, 1, 1), ("erlang_c", 1, 1, 1),
+        ("fewest_servers", 2, 1, 1, 1, 1), ("fewest_servers", 1, 60, 1, 1, 1),
+        ("waits", [0, 0]), ("times", [1]), ("conservation", []), ("cost", [0, 1, 2]), ("waits", [1, 0] * 4),
+        ("vacation_wait", 2, 1, 3, 1), ("vacation_wait", 0, 1, 3, 1),
+    ]
+
     def check(self, settings, refused, calls):
-        """Check that the refused call leaves what the calls show, and both numbers of classes."""
-        shown = ask_station(settings, *calls)
-        replies = ask_station(settings, ADD, ADD, refused, *calls, ADD, ("remove_class", 2), ("remove_class", 2))
-        self.assertLess(replies[2][0], 0, refused)
-        self.assertEqual(len(replies[2]), 1, refused)
-        self.assertEqual(replies[3:-3], shown, refused)
-        self.assertEqual(replies[-3:], [[2], [2], [-2]], refused)
+        """Check that the refused call leaves all that the calls show of the station and of the classes."""
+        adds = [("add_class",) + row for row in ROWS]
+        calls = calls + look_classes(len(ROWS))
+        shown = ask_station(settings, *adds, *calls)[2:]
+        replies = ask_station(settings, *adds, refused, *calls)[2:]
+        self.assertLess(replies[0][0], 0, refused)
+        self.assertEqual(len(replies[0]), 1, refused)
+        self.assertEqual(replies[1:], shown, refused)
 
     def test_station_and_classes(self):
-        classes = [("add_class", 0, 1, 2, 1, 2, 1), ("add_class", 1, 1, 2, 1, 5, 1), ("remove_class", 2)]
         for settings, calls in self.REFUSED.items():
-            for refused in calls + classes:
+            for refused in calls + self.ALWAYS:
                 self.check(settings, refused, look((2, 3, 5)))
 
     def test_a_sixth_class(self):
-        replies = ask_station(ENDLESS, *[ADD] * 5, ADD, *look((2, 3)), ("remove_class", 4))
-        self.assertEqual(replies[5], [-28])
-        self.assertEqual(replies[6:-1], ask_station(ENDLESS, *look((2, 3))))
-        self.assertEqual(replies[-1], [4])
+        rows = [ROWS[0]] + [ROWS[1]] * 4
+        calls = look_classes(5) + look((2, 3))
+        station = ("set_station",) + ENDLESS
+        replies = ask_classes(rows, station, ADD, *calls)
+        self.assertEqual(replies[1], [-28])
+        self.assertEqual(replies[2:], ask_classes(rows, station, *calls)[1:])
+
+    def test_without_classes(self):
+        refused = [("wait_fifo",), ("vacation_wait", 1, 1, 1, 1), ("remove_class", 0), ("waits", [0]), ("means",)]
+        replies = ask(("create",), *refused, *look_classes(0))
+        self.assertEqual(replies[1:6], [[-6], [-6], [-2], [-22], [-6]])
+        self.assertEqual(replies[6:], ask(("create",), *look_classes(0))[1:])
+
+    def test_classes_that_are_not_stable(self):
+        refused = [("wait_fifo",), ("best_order",), ("vacation_wait", 1, 1, 1, 1)]
+        refused += [(name, [1, 2, 0]) for name in OF_AN_ORDER]
+        replies = ask_classes(ROWS + [(1, 1, 1, 1, 1, 1)], *refused, ("remove_class", 2), *look_classes(2))
+        self.assertEqual(replies[:8], [[-33]] * 7 + [[2]])
+        self.assertEqual(replies[8:], ask_classes(ROWS, *look_classes(2)))
 
     def test_settings_that_show_later(self):
         # The capacity, the patience and the balking of a refused station must not be there later either.

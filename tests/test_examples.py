@@ -1,5 +1,6 @@
 """The document's examples, row by row."""
 
+import json
 import re
 import unittest
 
@@ -25,14 +26,30 @@ STATIONS = """
     set_rates(1, 1) -> 0
 """
 
-# Of the second example those rows that use the station's calls and the classes alone.
 CLASSES = """
+    loads() -> error -11
     create() -> 0
     probability(0) -> error -6
+    erlang_b(2, 3, 2) -> 0, 9, 29
+    erlang_c(2, 3, 2) -> 0, 9, 14
+    fewest_servers(0, 3, 2, 1, 10) -> 4
+    erlang_c(1, 3, 2) -> error -33
     add_class(1, 1, 4, 1, 8, 1) -> 0
     add_class(1, 1, 2, 1, 2, 4) -> 1
     add_class(1, 1, 2, 1, 5, 0) -> error -22
+    loads() -> 3, 1, 4, 1, 2, 3, 4
+    wait_fifo() -> 0, 5, 4
+    waits([0, 1]) -> 2, 5, 12, 5, 3
+    conservation([0, 1]) -> 0, 15, 16, 15, 16
+    cost([0, 1]) -> 0, 85, 12
+    best_order() -> 2, 1, 0
+    waits([1, 0]) -> 2, 5, 2, 5, 8
+    cost([1, 0]) -> 0, 5, 1
+    times([0, 1]) -> 2, 1, 3, 7, 3
+    vacation_wait(1, 1, 1, 1) -> 0, 7, 4
+    waits([0, 0]) -> error -22
     remove_class(2) -> error -2
+    summary() -> 0, 2, 1
 """
 
 
@@ -42,7 +59,7 @@ def rows_of(text):
     replies = []
     for row in text.strip().splitlines():
         name, given, reply = re.fullmatch(r" *(\w+)\((.*)\) -> (?:error )?(.*)", row).groups()
-        calls.append((name,) + tuple(int(number) for number in re.findall(r"\d+", given)))
+        calls.append((name,) + tuple(json.loads(f"[{given}]")))
         replies.append([int(number) for number in reply.split(", ")])
     return calls, replies
 

@@ -3,7 +3,7 @@
 import unittest
 from fractions import Fraction
 
-from tests.support import HUGE, Model, ask_station, fractions_of, look, stations, told
+from tests.support import HUGE, Model, ask_station, fractions_of, look, look_classes, stations, told
 
 ENDLESS = (2, 0, 3, 1, 0, 0, 0)
 
@@ -183,6 +183,26 @@ class NothingChanges(unittest.TestCase):
     def test_compare_servers_leaves_the_servers(self):
         replies = ask_station((3, 0, 2, 2, 0, 0, 0), ("means",), ("compare_servers", 9), ("means",))
         self.assertEqual(replies[0], replies[2])
+
+    def test_no_call_from_number_6_on_changes_anything(self):
+        rows = [(2, 1, 16, 1, 3, 5), (1, 1, 8, 1, 6, 7), (3, 1, 99, 1, 7, 9)]
+        adds = [("add_class",) + row for row in rows]
+        for settings in (ENDLESS, (3, 9, 2, 2, 5, 4, 10)):
+            looks = look((1, 2))[::3] + look_classes(3)
+            others = [
+                ("erlang_b", 20, 7, 2), ("erlang_c", 19, 7, 2), ("fewest_servers", 1, 7, 2, 1, 9),
+                ("vacation_wait", 9, 1, 100, 1), ("probability", 9), ("arrival_sees", 9), ("compare_servers", 2),
+                ("times", [2, 0, 1]), ("cost", [1, 2, 0]),
+            ]
+            replies = ask_station(settings, *adds, *looks, *others, *looks)[3:]
+            self.assertEqual([reply for reply in replies if reply[0] < 0], [])
+            self.assertEqual(replies[-len(looks):], replies[:len(looks)])
+            # What the figures show, and what only a later change would bring to light.
+            later = [("set_servers", 3), ("set_rates", 1, 1), ("remove_class", 0)] + look_classes(2) + look((4,))[::3]
+            self.assertEqual(
+                ask_station(settings, *adds, *others, *later)[3 + len(others):],
+                ask_station(settings, *adds, *later)[3:],
+            )
 
     def test_figures_make_no_class(self):
         replies = ask_station(ENDLESS, *look((1, 2)), ("remove_class", 0))
